@@ -373,7 +373,9 @@ func plainClosed(x impl.Tree) []impl.Decl {
 	return closed
 }
 
-func sameBound(a, b impl.Bound) bool { return a.Code == b.Code && a.Part == b.Part && sameUnit(a.Unit, b.Unit) }
+func sameBound(a, b impl.Bound) bool {
+	return a.Code == b.Code && a.Part == b.Part && sameUnit(a.Unit, b.Unit)
+}
 
 // checkBindPlain: Bind and Closed answer what the words give, read from the whole to its parts.
 func checkBindPlain(t *testing.T, x impl.Tree) impl.Bound {
