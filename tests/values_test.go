@@ -8,7 +8,7 @@ import (
 	"loop.example/heddle/impl"
 )
 
-// P3, by what Consts leans on: which values are valid, and which of these are true.
+// P4: which values are valid, and which of these are true.
 func TestValuesValid(t *testing.T) {
 	for _, v := range validValues() {
 		if !impl.ValueOk(v) || impl.Truth(v) != plainTruth(v) {
@@ -27,7 +27,7 @@ func TestValuesValid(t *testing.T) {
 	}
 }
 
-// P3: Same, Compare, Unary and Binary of every pair of values, valid or not, with every operation and some that are none.
+// P4: Same, Compare, Unary and Binary of every pair of values, valid or not, with every operation and some that are none.
 func TestValueOperations(t *testing.T) {
 	values := append(validValues(), wrongValues()...)
 	for _, a := range values {
@@ -65,7 +65,7 @@ func TestValueOperations(t *testing.T) {
 	}
 }
 
-// P3: the edges that the document names, in its own words.
+// P4: the edges that the document names, in its own words.
 func TestValueOperationEdges(t *testing.T) {
 	for _, c := range []struct {
 		op   int
@@ -128,7 +128,7 @@ func TestValueOperationEdges(t *testing.T) {
 	}
 }
 
-// P3: Text of every float, and of one value of each Kind.
+// P4: Text of every float, and of one value of each Kind.
 func TestValueTexts(t *testing.T) {
 	for _, v := range validValues() {
 		if got := impl.Text(v); got != plainText(v) {
