@@ -89,7 +89,7 @@ func checkUnitPlain(t *testing.T, what string, u impl.Unit) impl.Fault {
 	return want
 }
 
-// P3: a node of each Kind as its row has it, and with each of its fields otherwise.
+// P4: a node of each Kind as its row has it, and with each of its fields otherwise.
 func TestUnitFields(t *testing.T) {
 	valid := 0
 	for kind := -1; kind <= 40; kind++ {
@@ -127,7 +127,7 @@ func TestUnitFields(t *testing.T) {
 	}
 }
 
-// P3: a node of each Kind with another kid in each place, one kid more, one less.
+// P4: a node of each Kind with another kid in each place, one kid more, one less.
 func TestUnitKids(t *testing.T) {
 	valid := map[int]int{}
 	for kind := range unitRows {
@@ -163,7 +163,7 @@ func TestUnitKids(t *testing.T) {
 	}
 }
 
-// P3: tables with a key that is no NInt, a last value that gives just one, or an odd number of kids.
+// P4: tables with a key that is no NInt, a last value that gives just one, or an odd number of kids.
 func TestUnitTables(t *testing.T) {
 	kinds := []int{impl.NInt, impl.NStr, impl.NCall, impl.NRest, impl.NOne, impl.NNil}
 	r := rand.New(rand.NewSource(62))
@@ -186,7 +186,7 @@ func TestUnitTables(t *testing.T) {
 	}
 }
 
-// P3: the limits of fns: lines, names, variables, what is closed over.
+// P4: the limits of fns: lines, names, variables, what is closed over.
 func TestUnitHeads(t *testing.T) {
 	long := strings.Repeat("n", 40)
 	ups := func(count int) []impl.Up { return slices.Repeat([]impl.Up{{Local: true}}, count) }
@@ -229,7 +229,7 @@ func TestUnitHeads(t *testing.T) {
 	}
 }
 
-// P3: where each declared variable is in scope, and where it is not.
+// P4: where each declared variable is in scope, and where it is not.
 func TestUnitScopes(t *testing.T) {
 	block := func(stats ...*plainTwig) *plainTwig { return twigOf(impl.Node{Kind: impl.NBlock, Line: 1}, stats...) }
 	uses := func() *plainTwig {
@@ -289,7 +289,7 @@ func TestUnitScopes(t *testing.T) {
 	}
 }
 
-// P3: a fn that is made twice, by one ahead of it, by none; what it closes over where it is made.
+// P4: a fn that is made twice, by one ahead of it, by none; what it closes over where it is made.
 func TestUnitMaking(t *testing.T) {
 	block := func(stats ...*plainTwig) *plainTwig { return twigOf(impl.Node{Kind: impl.NBlock, Line: 1}, stats...) }
 	makes := func(fns ...int) *plainTwig {
@@ -325,7 +325,7 @@ func TestUnitMaking(t *testing.T) {
 	}
 }
 
-// P3: 3000 nodes and one more, depth 100 and one more, a kid twice, a kid of none, a body that is no NBlock.
+// P4: 3000 nodes and one more, depth 100 and one more, a kid twice, a kid of none, a body that is no NBlock.
 func TestUnitTrees(t *testing.T) {
 	block := func(stats ...*plainTwig) *plainTwig { return twigOf(impl.Node{Kind: impl.NBlock, Line: 1}, stats...) }
 	for _, c := range []struct{ depth, code int }{{99, 0}, {100, 0}, {101, 5}, {102, 5}} {
