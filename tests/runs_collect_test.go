@@ -187,7 +187,8 @@ func TestWeakPairsGo(t *testing.T) {
 	checkSays(t, "let w = setkind({}, {.weak = \"v\"}); w[1], w[2] = {}, {}; print(#w, cells()); collect(); print(#w, cells())", "2 5", "0 3")
 	// In the midst of going through it.
 	checkSays(t, "let w = setkind({1, {}, 3}, {.weak = \"v\"}); for k, v in w {v = nil; print(k); collect()}", "1", "3")
-	// Tables that are not reached lose nothing: one of them may be reached again by a last word.
+	// Tables that are not reached lose nothing until they are reached again, as by a last word.
+	checkSays(t, "let w = setkind({}, {.weak = \"v\", .last = fn(t) {print(type(t[1]), type(t[2])); collect(); print(type(t[1]))}}); w[1] = {}; w = nil; collect()", "table nil", "nil")
 	checkSays(t, `let back
 {let w = setkind({}, {.weak = "v", .last = fn(t) {back = t}})
 w[1] = {}}

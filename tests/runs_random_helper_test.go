@@ -501,3 +501,31 @@ func randomInput(seed int64) impl.Input {
 	}
 	return in
 }
+
+// renumbered: the same unit with the variables of each fn, but for its parameters, under other numbers.
+func renumbered(r *rand.Rand, u impl.Unit) impl.Unit {
+	out := copiedUnit(u)
+	for f, fn := range u.Fns {
+		to := countTo(len(fn.Vars))
+		others := to[fn.Params:]
+		r.Shuffle(len(others), func(i, j int) { others[i], others[j] = others[j], others[i] })
+		for v, name := range fn.Vars {
+			out.Fns[f].Vars[to[v]] = name
+		}
+		for n, node := range fn.Nodes {
+			switch node.Kind {
+			case impl.NLet, impl.NFor, impl.NEach, impl.NTry, impl.NVar:
+				for i, v := range node.Refs {
+					out.Fns[f].Nodes[n].Refs[i] = to[v]
+				}
+			case impl.NFn:
+				for i, up := range u.Fns[node.Refs[0]].Ups {
+					if up.Local {
+						out.Fns[node.Refs[0]].Ups[i].Index = to[up.Index]
+					}
+				}
+			}
+		}
+	}
+	return out
+}

@@ -1,6 +1,7 @@
 package tests
 
 import (
+	"math/rand"
 	"reflect"
 	"testing"
 
@@ -71,7 +72,14 @@ func checkRunSeed(t *testing.T, seed int64, looks bool) bool {
 		t.Fatalf("%s: code %d at %d", text, parsed.Code, parsed.At)
 	}
 	b := impl.Bind(impl.Grow(parsed.Sheet))
-	return b.Code != 0 || checkRunPlain(t, text, b.Unit, randomInput(seed), looks)
+	if b.Code != 0 {
+		return true
+	}
+	u := b.Unit
+	if r := rand.New(rand.NewSource(seed)); seed%4 == 0 {
+		u = renumbered(r, shuffled(r, u))
+	}
+	return checkRunPlain(t, text, u, randomInput(seed), looks)
 }
 
 // P4: what a unit's run answers is what its code does, step by step; at each record the same can be seen.
@@ -81,10 +89,36 @@ func TestRunsByChance(t *testing.T) {
 		t.Run("", func(t *testing.T) {
 			t.Parallel()
 			for seed := n * each; seed < (n+1)*each; seed++ {
-				if !checkRunSeed(t, seed, seed%10 == 0) {
+				if !checkRunSeed(t, seed, seed%6 == 0) {
 					return
 				}
 			}
 		})
+	}
+}
+
+// P4: the order and the numbers of nodes and variables say nothing, but for the order in which variables are shown.
+func TestRunsByKidsAlone(t *testing.T) {
+	text := "let a, b, c = 1, 2, 3\nfn f(x, y) {\nlet d, e = x + y, b\nfor i = 1, 2 {try {throw d + i} catch g, h {print(g, h, e, c)}}\nreturn fn() {d = d + 1; return d, e, a}\n}\nprint(f(5, 6)())"
+	u := boundText(t, text)
+	want := impl.Run(u, plenty())
+	r := rand.New(rand.NewSource(1))
+	for range 50 {
+		other := renumbered(r, shuffled(r, u))
+		if got := ranUnit(t, text, other, plenty()); !sameReport(got, want) {
+			t.Errorf("%s: %+v, want %+v", unitTold(other), got, want)
+		}
+	}
+	u = boundText(t, "let a, b = 1, 2\nlet c = 3\nprint(c)")
+	for i, v := range []int{2, 0, 1} {
+		u.Fns[0].Vars[v] = []string{"a", "b", "c"}[i]
+	}
+	for n, node := range u.Fns[0].Nodes {
+		for i, v := range node.Refs {
+			u.Fns[0].Nodes[n].Refs[i] = []int{2, 0, 1}[v]
+		}
+	}
+	if got := viewTold(impl.Look(u, plenty(), 3)); got != "task 0, 0:3 b=2 c=3 a=1" {
+		t.Error(got)
 	}
 }

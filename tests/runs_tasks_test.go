@@ -248,6 +248,15 @@ func TestNoGoroutineStays(t *testing.T) {
 		}
 		ranText(t, prelude+text, plenty())
 	}
+	// They end ahead of the answer: at the moment of it hardly any is still about to go.
+	u, left := boundText(t, "for i = 1, 90 {resume(task(fn() {yield()}))}"), 0
+	for range 50 {
+		impl.Run(u, plenty())
+		left += max(0, runtime.NumGoroutine()-before)
+	}
+	if left > 50*45 {
+		t.Errorf("%d of %d goroutines are still there", left, 50*90)
+	}
 	// One that has told its end may need a moment to be gone.
 	for range 100 {
 		if runtime.NumGoroutine() <= before {
