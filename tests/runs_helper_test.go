@@ -89,19 +89,9 @@ func checkRecs(t *testing.T, text string, want ...string) {
 	checkShown(t, text, recsOf(ranText(t, text, plenty())), want)
 }
 
-// checkCode: the code of the one error that a text prints by `say`, or 0: said is a statement or more, tried in a text that has
-// print, and fns none, two and many that give so many values.
+// checkCode: the code of the error that statements throw, or 0 for none; none, two and many are fns that give so many values.
 func checkCode(t *testing.T, said string, code int) {
 	t.Helper()
-	text := "fn none() {}; fn two() {return 1, 2}; fn many() {return 1, 2, 3}\ntry {\n" + said + "\n} catch e {\nreturn e.code\n}"
-	r := ranText(t, text, plenty())
-	want := []string{fmt.Sprint("gives ", code)}
-	got := saysOf(r)
-	if code == 0 {
-		want = nil
-	}
-	if len(got) > 0 && !strings.HasPrefix(got[len(got)-1], "gives") {
-		got = nil
-	}
-	checkShown(t, text, got[max(0, len(got)-1):], want)
+	text := "fn none() {}; fn two() {return 1, 2}; fn many() {return 1, 2, 3}\ntry {\n" + said + "\n} catch e {\nreturn e.code\n}\nreturn 0"
+	checkShown(t, text, ranText(t, text, plenty()).Vals, []string{fmt.Sprint(code)})
 }

@@ -1,10 +1,6 @@
 package tests
 
-import (
-	"testing"
-
-	"loop.example/heddle/impl"
-)
+import "testing"
 
 // lasts: a text with k, a kind whose last words are told by l, and make(n), which makes a table of that kind with the name n and drops it.
 const lasts = `let k = {}
@@ -145,7 +141,4 @@ k = nil
 print(collect())`
 	// w 1 + 2, its kind 3, its fn 1; a 2; k 1, its fn 2, x 2: 14; the pair goes. a keeps the variable, which holds nothing then.
 	checkSays(t, text, "14", "13", "13 13", "bye 1", "7", "5", "0")
-	if impl.MaxTasks != 100 {
-		t.Error("tasks")
-	}
 }

@@ -76,17 +76,11 @@ func TestExpressions(t *testing.T) {
 		{"let a = nil + 1", impl.ErrType}, {"let a = 1 // 0", impl.ErrZero}, {"let a = 1 % 0", impl.ErrZero}, {"let a = 1 << -1", impl.ErrRange},
 		{"let a = {} < 1", impl.ErrType}, {"let a = 1 >= nil", impl.ErrType}, {"let a = -nil", impl.ErrType}, {"let a = ~1.5", impl.ErrType}, {"let a = #1", impl.ErrType},
 		{"let a = {} .. 1", impl.ErrType}, {"let a = nil .. 1", impl.ErrType}, {"let s = \"0123456789\"; for i = 1, 9 {s = s .. s}", impl.ErrLong},
-		{"let a = nil[1]", impl.ErrIndex}, {"let a = (1).x", impl.ErrIndex}, {"let a = \"s\"[1]", impl.ErrIndex}, {"let a = print[1]", impl.ErrIndex},
-		{"nil()", impl.ErrCall}, {"(1)()", impl.ErrCall}, {"({})()", impl.ErrCall}, {"(\"s\")(1)", impl.ErrCall},
+		{"let v; let a = v[1]", impl.ErrIndex}, {"let a = (1).x", impl.ErrIndex}, {"let a = (\"s\")[1]", impl.ErrIndex}, {"let a = print[1]", impl.ErrIndex},
+		{"let v; v()", impl.ErrCall}, {"(1)()", impl.ErrCall}, {"({})()", impl.ErrCall}, {"(\"s\")(1)", impl.ErrCall},
 		{"let a; a.x = 1", impl.ErrIndex}, {"let a = {}; a[nil] = 1", impl.ErrKey}, {"let a = {}; a[0.0 / 0.0] = nil", impl.ErrKey},
 	} {
-		text := c.text
-		if strings.HasPrefix(text, "nil") {
-			text = "let none; none()"
-		}
-		text = strings.Replace(text, "let a = nil[", "let none; let a = none[", 1)
-		text = strings.Replace(text, "\"s\"[", "(\"s\")[", 1)
-		checkCode(t, text, c.code)
+		checkCode(t, c.text, c.code)
 	}
 }
 

@@ -495,6 +495,9 @@ func randomText(seed int64) string {
 func randomInput(seed int64) impl.Input {
 	r := rand.New(rand.NewSource(seed))
 	in := impl.Input{Ticks: 20 + r.Intn(700), Depth: 1 + r.Intn(12), Cells: 10 + r.Intn(150)}
+	if seed%3 > 0 {
+		in = impl.Input{Ticks: 300 + r.Intn(1000), Depth: 5 + r.Intn(25), Cells: 200 + r.Intn(1000)}
+	}
 	for range r.Intn(4) {
 		in.Args = append(in.Args, []string{"", "a", "long argument"}[r.Intn(3)])
 		in.Lines = append(in.Lines, []string{"", "k", "a line"}[r.Intn(3)])
