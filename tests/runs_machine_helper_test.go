@@ -26,7 +26,8 @@ type plainMachine struct {
 	over   bool
 	rep    impl.Report
 	looks  bool
-	views  []impl.View // at each record, when it looks
+	views  []impl.View         // at each record, when it looks
+	ahead  func(f *plainFrame) // ahead of each instruction
 }
 
 type plainTable struct {
@@ -102,16 +103,26 @@ type (
 
 // plainRun: the report of a unit's code, and what can be seen at each record when it looks.
 func plainRun(u impl.Unit, in impl.Input, looks bool) (impl.Report, []impl.View) {
-	m := &plainMachine{code: plainCompiled(u), in: in, looks: looks, tasks: []*plainTask{{state: "running", waiter: -1}}}
+	m := plainMachineOf(plainCompiled(u), in)
+	m.looks = looks
+	m.run()
+	return m.rep, m.views
+}
+
+func plainMachineOf(c impl.Code, in impl.Input) *plainMachine {
+	m := &plainMachine{code: c, in: in, tasks: []*plainTask{{state: "running", waiter: -1}}, ahead: func(*plainFrame) {}}
 	var args []impl.Value
 	for _, arg := range in.Args {
 		args = append(args, vStr(arg))
 	}
 	m.open(0, impl.Value{}, args)
+	return m
+}
+
+func (m *plainMachine) run() {
 	for !m.over {
 		m.guardedMove()
 	}
-	return m.rep, m.views
 }
 
 func (m *plainMachine) guardedMove() {
@@ -301,6 +312,7 @@ func (m *plainMachine) move() {
 		m.leaves(f)
 	default:
 		if !m.has {
+			m.ahead(f)
 			m.do(f)
 		}
 		if f := m.frame(); m.has && m.way.kind == "" && f != nil && f.kind == "code" && !f.leaving {
@@ -534,9 +546,18 @@ func (m *plainMachine) plainIns(f *plainFrame, i impl.Ins) int {
 		f.put(i.A, vRef(impl.KTable, len(m.tables)-1))
 	case impl.IRaw:
 		k, v := f.operand(i.B).val, f.operand(i.C).val
+		if f.regs[i.A].val.Kind != impl.KTable {
+			m.fail(impl.ErrIndex)
+		}
 		m.raw(f.regs[i.A].val, k, v)
 	case impl.IRawAll:
 		k, vals := f.operand(i.B).val, f.operand(i.C).list
+		if f.regs[i.A].val.Kind != impl.KTable {
+			m.fail(impl.ErrIndex)
+		}
+		if k.Kind != impl.KInt {
+			m.fail(impl.ErrKey)
+		}
 		for j, v := range vals {
 			m.raw(f.regs[i.A].val, vInt(k.Num+int64(j)), v)
 		}
@@ -549,7 +570,11 @@ func (m *plainMachine) plainIns(f *plainFrame, i impl.Ins) int {
 	case impl.IList:
 		f.putList(i.A, nil)
 	case impl.IAdd:
-		f.putList(i.A, append(f.regs[i.A].list, f.operand(i.B).val))
+		more := f.operand(i.B).val
+		if len(f.regs[i.A].list) == impl.MaxList {
+			m.fail(impl.ErrLong)
+		}
+		f.putList(i.A, append(f.regs[i.A].list, more))
 	case impl.IJoin:
 		more := f.operand(i.B).list
 		if len(f.regs[i.A].list)+len(more) > impl.MaxList {
@@ -584,11 +609,13 @@ func (m *plainMachine) plainIns(f *plainFrame, i impl.Ins) int {
 		}
 	case impl.IForNext:
 		at, step := f.regs[i.A].val, f.regs[i.A+2].val
-		sum := impl.Binary(impl.OpAdd, at, step).Value
-		if at.Kind == impl.KInt && (step.Num > 0 && sum.Num < at.Num || step.Num < 0 && sum.Num > at.Num) {
+		added := impl.Binary(impl.OpAdd, at, step)
+		sum := added.Value.Num
+		turned := step.Num == 0 || step.Num > 0 && sum < at.Num || step.Num < 0 && sum > at.Num
+		if added.Code != 0 || at.Kind == impl.KInt && step.Kind == impl.KInt && turned {
 			return next
 		}
-		f.put(i.A, sum)
+		f.put(i.A, added.Value)
 		return i.B
 	case impl.IDrop:
 		f.regs[i.A] = plainReg{}
@@ -681,6 +708,9 @@ func (m *plainMachine) eachNext(f *plainFrame, i impl.Ins) {
 		m.tick()
 		m.call(v, nil)
 		return
+	}
+	if v.Kind != impl.KTable {
+		m.fail(impl.ErrIndex)
 	}
 	found := impl.After(m.tables[v.Ref].table, int(p.Num))
 	if !found.Found {
