@@ -236,6 +236,7 @@ func TestImagesReadBack(t *testing.T) {
 	checkImage(t, "three protos", threeProtos("tick; fn 0 2; list 0; return 0"))
 	checkImage(t, "next to nothing", impl.Code{Protos: []impl.Proto{{Ins: insOf("jump 0")}}})
 	checkImage(t, "as much of all as there may be", fullCode())
+	checkImage(t, "all instructions in one proto", manyProtos(1, 5998))
 	r := rand.New(rand.NewSource(11))
 	written := 0
 	for seed := range int64(60) {
