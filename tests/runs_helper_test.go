@@ -13,14 +13,17 @@ func plenty() impl.Input {
 	return impl.Input{Ticks: impl.MaxTicks, Depth: impl.MaxDepth, Cells: impl.MaxCells}
 }
 
-// ranUnit: the report of a unit; it is what the plain machine answers too, at each record it can be seen what stands there, and
-// nothing is written into the unit or the input.
+// ranUnit: the report of a unit; it is what the plain machine answers too, and what the unit's code does when it is stepped; at each
+// record it can be seen what stands there, and nothing is written into the unit or the input.
 func ranUnit(t *testing.T, told string, u impl.Unit, in impl.Input) impl.Report {
 	t.Helper()
 	before := copiedUnit(u)
 	args, lines := slices.Clone(in.Args), slices.Clone(in.Lines)
 	r := impl.Run(u, in)
 	checkRunPlain(t, told, u, in, len(r.Recs) < 300)
+	if c := plainCompiled(u); plainShape(c).Code == 0 {
+		checkStepsPlain(t, told, c, in, false)
+	}
 	if !sameUnit(u, before) || !slices.Equal(in.Args, args) || !slices.Equal(in.Lines, lines) {
 		t.Errorf("%s: what was given has changed", told)
 	}

@@ -571,7 +571,7 @@ func (m *plainMachine) plainIns(f *plainFrame, i impl.Ins) int {
 		f.putList(i.A, nil)
 	case impl.IAdd:
 		more := f.operand(i.B).val
-		if len(f.regs[i.A].list) == impl.MaxList {
+		if len(f.regs[i.A].list) >= impl.MaxList {
 			m.fail(impl.ErrLong)
 		}
 		f.putList(i.A, append(f.regs[i.A].list, more))
