@@ -70,6 +70,7 @@ func compiledByChance(seed int64) (impl.Code, bool) {
 
 // P5: code that was compiled is verified; with one field of it changed, the faults are those that the plain verifier tells.
 func TestCompiledCodesByChance(t *testing.T) {
+	t.Parallel()
 	for seed := range int64(20) {
 		c, ok := compiledByChance(seed)
 		if !ok {
@@ -126,6 +127,7 @@ func checkNeverStuck(t *testing.T, told string, c impl.Code, in impl.Input) {
 
 // P5: what the verifier lets through never gets stuck.
 func TestVerifiedNeverStuck(t *testing.T) {
+	t.Parallel()
 	in := impl.Input{Args: []string{"a", "b"}, Lines: []string{"l"}, Ticks: 2000, Depth: 20, Cells: 500}
 	checkNeverStuck(t, "every Op", everyOp(), in)
 	checkNeverStuck(t, "guards within guards", guardedCode(), in)

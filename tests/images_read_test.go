@@ -172,6 +172,7 @@ func TestDecodeWrongShape(t *testing.T) {
 
 // P5: every byte of an image changed to every other value: no code, or one of which these are the bytes.
 func TestDecodeChangedBytes(t *testing.T) {
+	t.Parallel()
 	for _, c := range []impl.Code{shownCode(), everyOp(), guardedCode(), codeWithConst(vInt(leastInt))} {
 		image := plainImage(c)
 		read, unread := 0, 0

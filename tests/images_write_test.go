@@ -231,6 +231,7 @@ func TestImageSizes(t *testing.T) {
 
 // P5: Decode of what Encode writes is the code.
 func TestImagesReadBack(t *testing.T) {
+	t.Parallel()
 	checkImage(t, "every Op", everyOp())
 	checkImage(t, "guards within guards", guardedCode())
 	checkImage(t, "three protos", threeProtos("tick; fn 0 2; list 0; return 0"))

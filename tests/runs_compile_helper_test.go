@@ -13,11 +13,7 @@ func plainCompiled(u impl.Unit) impl.Code {
 	homes := make([][]int, len(u.Fns))
 	var code impl.Code
 	for f, fn := range u.Fns {
-		k := &plainCompiler{u: u, fn: fn, captured: plainCaptured(u, fn), homes: make([]int, len(fn.Vars))}
-		k.froms, k.tos = make([]int, len(fn.Vars)), make([]int, len(fn.Vars))
-		for v := range k.homes {
-			k.homes[v] = -1
-		}
+		k := plainCompilerOf(u, fn)
 		k.whole()
 		homes[f] = k.homes
 		code.Protos = append(code.Protos, k.p)
@@ -72,6 +68,15 @@ type plainCompiler struct {
 	top      int
 	levels   []*plainLevel
 	p        impl.Proto
+}
+
+func plainCompilerOf(u impl.Unit, fn impl.Fn) *plainCompiler {
+	k := &plainCompiler{u: u, fn: fn, captured: plainCaptured(u, fn), homes: make([]int, len(fn.Vars))}
+	k.froms, k.tos = make([]int, len(fn.Vars)), make([]int, len(fn.Vars))
+	for v := range k.homes {
+		k.homes[v] = -1
+	}
+	return k
 }
 
 func took(r int) int { return -1 - r }
@@ -448,11 +453,9 @@ func (k *plainCompiler) loop(n impl.Node, r int) {
 		k.emit(impl.IEach, r)
 		begin = k.emit(impl.IEachNext, r, 0, r+2)
 		exit = begin
-		for j := range n.Refs {
-			k.emit(impl.IPick, r+3+j, r+2, j)
-		}
 		k.setTop(r + 3 + len(n.Refs))
 		for j, v := range n.Refs {
+			k.emit(impl.IPick, r+3+j, r+2, j)
 			k.home(v, r+3+j)
 		}
 		k.emit(impl.IDrop, r+2)

@@ -23,6 +23,7 @@ func ranUnit(t *testing.T, told string, u impl.Unit, in impl.Input) impl.Report 
 	checkRunPlain(t, told, u, in, len(r.Recs) < 300)
 	if c := plainCompiled(u); plainShape(c).Code == 0 {
 		checkStepsPlain(t, told, c, in, false)
+		checkSameRuns(t, told, u, in, false)
 	}
 	if !sameUnit(u, before) || !slices.Equal(in.Args, args) || !slices.Equal(in.Lines, lines) {
 		t.Errorf("%s: what was given has changed", told)
