@@ -1,6 +1,7 @@
 package tests
 
 import (
+	"fmt"
 	"slices"
 	"strings"
 	"testing"
@@ -215,6 +216,27 @@ func tidyCode(t *testing.T, told string, c impl.Code) impl.Code {
 		t.Fatalf("%s: what is given shares memory with the code or with a second answer", told)
 	}
 	return got
+}
+
+// notVerified: codes with one fault, of each code of CheckShape and CheckCode.
+func notVerified(t *testing.T) map[string]impl.Code {
+	t.Helper()
+	codes := wrongShapes()
+	for code, text := range map[int]string{
+		10: "throw 0",
+		11: "endtry; list 0; return ~0",
+		12: "const 0 1; try @h 1; drop 0; endtry; h: throw 0",
+		13: "const 0 1; if 0 @a; const 1 1; a: throw 0",
+		14: "begin: jump @begin",
+	} {
+		c := stepsOf(text)
+		if fault := impl.CheckCode(c); fault.Code != code {
+			t.Fatal(text, fault)
+		}
+		codes[fmt.Sprint(code, ": ", text)] = c
+	}
+	codes["10: only the last proto"] = stepsOf("proto main\nfn 0 f; throw ~0\nproto f\nlist 0; throw 0")
+	return codes
 }
 
 // checkTidy: a code and what it becomes, both told as stepsOf has them.

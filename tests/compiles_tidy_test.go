@@ -178,22 +178,7 @@ func TestTidyKeeps(t *testing.T) {
 
 // P6: the zero value for a code that is not verified, by each code of CheckShape and CheckCode.
 func TestTidyNotVerified(t *testing.T) {
-	codes := wrongShapes()
-	for code, text := range map[int]string{
-		10: "throw 0",
-		11: "endtry; list 0; return ~0",
-		12: "const 0 1; try @h 1; drop 0; endtry; h: throw 0",
-		13: "const 0 1; if 0 @a; const 1 1; a: throw 0",
-		14: "begin: jump @begin",
-	} {
-		c := stepsOf(text)
-		if fault := impl.CheckCode(c); fault.Code != code {
-			t.Fatal(text, fault)
-		}
-		codes[fmt.Sprint(code, ": ", text)] = c
-	}
-	codes["10: only the last proto"] = stepsOf("proto main\nfn 0 f; throw ~0\nproto f\nlist 0; throw 0")
-	for told, c := range codes {
+	for told, c := range notVerified(t) {
 		before := codeTold(c)
 		if got := impl.Tidy(c); len(got.Protos) != 0 {
 			t.Errorf("%s: %s", told, codeTold(got))
