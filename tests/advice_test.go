@@ -320,6 +320,7 @@ func TestAdviceOfIfs(t *testing.T) {
 
 // P3: notes of trees that cannot be bound, and of ones by chance, are those that the words give, in their order.
 func TestAdviceByChance(t *testing.T) {
+	t.Parallel()
 	codes := map[int]int{}
 	for seed := range int64(2500) {
 		x := boundTree(seed, 10)

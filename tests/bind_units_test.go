@@ -183,6 +183,7 @@ func TestBindVars(t *testing.T) {
 
 // P3: the units of trees by chance are those that the words give; each is valid, and the answer is its own memory.
 func TestBindByChance(t *testing.T) {
+	t.Parallel()
 	codes, locals := map[int]int{}, map[bool]int{}
 	for seed := range int64(2500) {
 		x := boundTree(seed, []int{0, 0, 0, 4, 12}[seed%5])

@@ -213,6 +213,7 @@ func TestFoldOrder(t *testing.T) {
 
 // P3: the units of trees by chance, their nodes also in other orders, are folded as the rules say.
 func TestFoldByChance(t *testing.T) {
+	t.Parallel()
 	lost, seen := 0, map[int]int{}
 	for seed := range int64(1500) {
 		b := impl.Bind(literalRich(seed))
@@ -239,6 +240,7 @@ func TestFoldByChance(t *testing.T) {
 
 // P3: a unit that is not valid has the zero value, by whichever code; one that is spoilt and still valid is folded.
 func TestFoldUnitsByChance(t *testing.T) {
+	t.Parallel()
 	codes := map[int]int{}
 	r := rand.New(rand.NewSource(61))
 	for seed := range int64(6000) {

@@ -245,6 +245,7 @@ func (c *constText) block(head string) {
 
 // P3: the consts of texts by chance are those that the words give, read from the whole to its parts.
 func TestConstsByChance(t *testing.T) {
+	t.Parallel()
 	codes, kinds := map[int]int{}, map[int]int{}
 	for seed := range int64(4000) {
 		c := constText{r: rand.New(rand.NewSource(seed)), left: 25}

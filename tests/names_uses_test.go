@@ -142,6 +142,7 @@ func TestUsesOfBuiltins(t *testing.T) {
 
 // P3: the uses of trees by chance are those that a look outwards from each name finds.
 func TestUsesByChance(t *testing.T) {
+	t.Parallel()
 	kinds := map[int]int{}
 	for seed := range int64(3000) {
 		x := namesTree(seed)

@@ -11,6 +11,7 @@ import (
 )
 
 func TestWrittenIsReadBack(t *testing.T) {
+	t.Parallel()
 	for _, f := range everyFloat() {
 		for _, text := range []string{impl.Shortest(f), impl.Exact(f), impl.HexOf(f)} {
 			checkRead(t, text, f)
@@ -103,6 +104,7 @@ func TestShortestForm(t *testing.T) {
 
 // TestShortestHasTheFewestDigits: with one digit less, cut off or counted up, another float is told; and with as many, none is nearer.
 func TestShortestHasTheFewestDigits(t *testing.T) {
+	t.Parallel()
 	for _, f := range someNumbers() {
 		f = math.Abs(f)
 		short := impl.Shortest(f)

@@ -5,6 +5,7 @@ import (
 	"maps"
 	"slices"
 	"strings"
+	"sync"
 	"testing"
 
 	"loop.example/heddle/impl"
@@ -307,15 +308,15 @@ func wordEnds() []string {
 }
 
 // textBegun: what beginsText has answered.
-var textBegun = map[string]bool{}
+var textBegun sync.Map
 
 func beginsText(text string) bool {
-	begins, known := textBegun[text]
+	begins, known := textBegun.Load(text)
 	if !known {
 		begins = slices.ContainsFunc(textEnds, func(end string) bool { return chartOf(text+end) != nil })
-		textBegun[text] = begins
+		textBegun.Store(text, begins)
 	}
-	return begins
+	return begins.(bool)
 }
 
 // plainTextFault: whether a text is well-formed, and if not, the first byte with which no text begins.

@@ -11,6 +11,7 @@ import (
 )
 
 func TestParseSpreadSheets(t *testing.T) {
+	t.Parallel()
 	r := rand.New(rand.NewSource(11))
 	for _, s := range grownSheets(5, 1200) {
 		text, want := spreadOf(s, r).laid()

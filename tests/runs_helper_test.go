@@ -13,8 +13,9 @@ func plenty() impl.Input {
 	return impl.Input{Ticks: impl.MaxTicks, Depth: impl.MaxDepth, Cells: impl.MaxCells}
 }
 
-// ranUnit: the report of a unit; it is what the plain machine answers too, and what the unit's code does when it is stepped; at each
-// record it can be seen what stands there, and nothing is written into the unit or the input.
+// ranUnit: the report of a unit; it is what the plain machine answers too, and what the unit's code does when it is stepped and on the
+// machine with its slots at every pace; at each record it can be seen what stands there, and nothing is written into the unit or the
+// input.
 func ranUnit(t *testing.T, told string, u impl.Unit, in impl.Input) impl.Report {
 	t.Helper()
 	before := copiedUnit(u)

@@ -28,6 +28,10 @@ type plainMachine struct {
 	looks  bool
 	views  []impl.View         // at each record, when it looks
 	ahead  func(f *plainFrame) // ahead of each instruction
+
+	made    func(kind, number int, box *impl.Value) // at each table, fn and box that is made
+	renewed func(table int)                         // when pairs have come to a table or gone from it
+	quick   func(f *plainFrame) bool                // does an instruction in another way; false when there is none
 }
 
 type plainTable struct {
@@ -111,6 +115,8 @@ func plainRun(u impl.Unit, in impl.Input, looks bool) (impl.Report, []impl.View)
 
 func plainMachineOf(c impl.Code, in impl.Input) *plainMachine {
 	m := &plainMachine{code: c, in: in, tasks: []*plainTask{{state: "running", waiter: -1}}, ahead: func(*plainFrame) {}}
+	m.made, m.renewed = func(int, int, *impl.Value) {}, func(int) {}
+	m.quick = func(*plainFrame) bool { return false }
 	var args []impl.Value
 	for _, arg := range in.Args {
 		args = append(args, vStr(arg))
@@ -261,6 +267,7 @@ func (m *plainMachine) throw(v impl.Value) {
 func (m *plainMachine) fail(code int) {
 	t := impl.Put(impl.Table{}, vStr("code"), vInt(int64(code)))
 	m.tables = append(m.tables, &plainTable{table: impl.Put(t, vStr("line"), vInt(int64(m.line())))})
+	m.made(impl.SlotTable, len(m.tables)-1, nil)
 	m.throw(vRef(impl.KTable, len(m.tables)-1))
 }
 
@@ -294,7 +301,11 @@ func (m *plainMachine) raw(table, k, v impl.Value) {
 		}
 		m.pay(1)
 	}
+	count := len(t.table.Pairs)
 	t.table = impl.Put(t.table, k, v)
+	if len(t.table.Pairs) != count {
+		m.renewed(table.Ref)
+	}
 }
 
 func (m *plainMachine) move() {
@@ -470,6 +481,9 @@ func (f *plainFrame) putList(r int, vals []impl.Value) {
 
 // do: one instruction; those that stay are completed with what is given.
 func (m *plainMachine) do(f *plainFrame) {
+	if m.quick(f) {
+		return
+	}
 	i := m.code.Protos[f.proto].Ins[f.at]
 	switch i.Op {
 	case impl.IIndex:
@@ -530,6 +544,7 @@ func (m *plainMachine) plainIns(f *plainFrame, i impl.Ins) int {
 	case impl.IBox:
 		v := f.operand(i.B).val
 		f.regs[i.A] = plainReg{kind: "box", box: &v}
+		m.made(impl.SlotBox, 0, &v)
 	case impl.IGet:
 		f.put(i.A, *f.regs[i.B].box)
 	case impl.IPut:
@@ -543,6 +558,7 @@ func (m *plainMachine) plainIns(f *plainFrame, i impl.Ins) int {
 	case impl.ITable:
 		m.pay(1)
 		m.tables = append(m.tables, &plainTable{})
+		m.made(impl.SlotTable, len(m.tables)-1, nil)
 		f.put(i.A, vRef(impl.KTable, len(m.tables)-1))
 	case impl.IRaw:
 		k, v := f.operand(i.B).val, f.operand(i.C).val
@@ -634,6 +650,7 @@ func (m *plainMachine) makeFn(f *plainFrame, i impl.Ins) {
 	}
 	m.pay(1 + len(fn.ups))
 	m.fns = append(m.fns, fn)
+	m.made(impl.SlotFn, len(m.fns)-1, nil)
 	f.put(i.A, vRef(impl.KFn, len(m.fns)-1))
 }
 
@@ -1120,10 +1137,14 @@ func (m *plainMachine) beginRound(f *plainFrame) {
 		if !seen[[2]int{impl.KTable, n}] {
 			continue
 		}
+		count := len(t.table.Pairs)
 		for _, p := range t.table.Pairs {
 			if keys && seen.misses(p.Key) || vals && seen.misses(p.Val) {
 				t.table = impl.Put(t.table, p.Key, impl.Value{})
 			}
+		}
+		if len(t.table.Pairs) != count {
+			m.renewed(n)
 		}
 	}
 	for n, t := range m.tables {

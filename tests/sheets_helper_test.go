@@ -6,6 +6,7 @@ import (
 	"slices"
 	"strconv"
 	"strings"
+	"sync"
 	"testing"
 
 	"loop.example/heddle/impl"
@@ -91,14 +92,20 @@ func letterOf(kind int) byte {
 	return '?'
 }
 
-var kidForms = map[string]*regexp.Regexp{}
+// formsMade: patterns that were made already, as they are written out.
+var formsMade sync.Map
+
+func formMade(full string) *regexp.Regexp {
+	form, known := formsMade.Load(full)
+	if !known {
+		form = regexp.MustCompile(`^(` + full + `)$`)
+		formsMade.Store(full, form)
+	}
+	return form.(*regexp.Regexp)
+}
 
 func kidForm(pattern string) *regexp.Regexp {
-	if kidForms[pattern] == nil {
-		full := strings.NewReplacer("<s>", "["+statLetters+"]", "<e>", "["+exprLetters+"]", "<b>", "[A-GI-R]").Replace(pattern)
-		kidForms[pattern] = regexp.MustCompile(`^(` + full + `)$`)
-	}
-	return kidForms[pattern]
+	return formMade(strings.NewReplacer("<s>", "["+statLetters+"]", "<e>", "["+exprLetters+"]", "<b>", "[A-GI-R]").Replace(pattern))
 }
 
 func plainIsName(text string) bool {

@@ -71,6 +71,7 @@ line 5; give 0`, 0, 0, 1, 2, 4, 5)
 
 // P5: MaxRecs records are made, and no more: met exactly the run goes on to its end.
 func TestStepRecords(t *testing.T) {
+	t.Parallel()
 	code := func(turns, more int) impl.Code {
 		text := fmt.Sprintf("const 0 1; const 1 %d; const 2 1; for 0; t: fortest 0 @e; tick", turns)
 		for i := range 1000 {

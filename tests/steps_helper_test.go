@@ -286,7 +286,7 @@ func (s *scribbler) used() int {
 	return count
 }
 
-// checkStepsPlain: RunCode and LookCode answer what the plain machine does, at every record and beside them.
+// checkStepsPlain: RunCode and LookCode answer what the plain machine does, at every record and beside them; so does RunLoom.
 func checkStepsPlain(t *testing.T, told string, c impl.Code, in impl.Input, looks bool) bool {
 	t.Helper()
 	m := plainMachineOf(c, in)
@@ -303,6 +303,12 @@ func checkStepsPlain(t *testing.T, told string, c impl.Code, in impl.Input, look
 		t.Errorf("%s\n%+v: %d records, %+v, want %d, %+v\n%s", told, in, len(got.Recs), withoutRecs(got), len(want.Recs), withoutRecs(want), codeTold(c))
 		return false
 	}
+	for _, pace := range []int{0, 1} {
+		if got := impl.RunLoom(c, in, pace); !sameReport(got, want) {
+			t.Errorf("%s\n%+v at pace %d: %s, want %s\n%s", told, in, pace, reportTold(got), reportTold(want), codeTold(c))
+			return false
+		}
+	}
 	for k, view := range m.views {
 		if got := impl.LookCode(c, in, k); !sameView(got, view) {
 			t.Errorf("%s\n%+v: at record %d %+v: %+v, want %+v\n%s", told, in, k, want.Recs[k], got, view, codeTold(c))
@@ -312,7 +318,8 @@ func checkStepsPlain(t *testing.T, told string, c impl.Code, in impl.Input, look
 	return true
 }
 
-// ranCode: the report of a verified code, which is what the plain machine answers too; what was given is as before.
+// ranCode: the report of a verified code, which is what the plain machine answers too, and the machine with its slots at every pace;
+// what was given is as before.
 func ranCode(t *testing.T, told string, c impl.Code, in impl.Input) impl.Report {
 	t.Helper()
 	before := codeTold(c)
@@ -322,6 +329,7 @@ func ranCode(t *testing.T, told string, c impl.Code, in impl.Input) impl.Report 
 	}
 	r := impl.RunCode(c, in)
 	checkStepsPlain(t, told, c, in, len(r.Recs) < 300)
+	checkLoomSame(t, told, c, in, r)
 	if codeTold(c) != before || !slices.Equal(in.Args, args) || !slices.Equal(in.Lines, lines) {
 		t.Errorf("%s: what was given has changed", told)
 	}

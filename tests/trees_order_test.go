@@ -141,6 +141,7 @@ func TestTreeFirstFault(t *testing.T) {
 
 // P3: trees by chance are sound, and spoilt in one or two places have the fault that the list says.
 func TestTreesByChance(t *testing.T) {
+	t.Parallel()
 	r := rand.New(rand.NewSource(51))
 	codes := map[int]int{}
 	for _, s := range append(grownSheets(52, 1500), someSheets(1000)...) {

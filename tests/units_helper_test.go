@@ -64,14 +64,8 @@ var unitRows = map[int]unitRow{
 	impl.NOne:     {kids: `[OR]`},
 }
 
-var nodeKidForms = map[string]*regexp.Regexp{}
-
 func nodeKidForm(pattern string) *regexp.Regexp {
-	if nodeKidForms[pattern] == nil {
-		full := strings.NewReplacer("<s>", "["+nodeStatLetters+"]", "<e>", "["+nodeExprLetters+"]").Replace(pattern)
-		nodeKidForms[pattern] = regexp.MustCompile(`^(` + full + `)$`)
-	}
-	return nodeKidForms[pattern]
+	return formMade(strings.NewReplacer("<s>", "["+nodeStatLetters+"]", "<e>", "["+nodeExprLetters+"]").Replace(pattern))
 }
 
 func isStatNode(kind int) bool { return kind >= 1 && kind <= 14 }
