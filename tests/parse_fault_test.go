@@ -51,7 +51,6 @@ func wander(r *rand.Rand, size int, stray int) string {
 }
 
 func TestParseFaultsByChance(t *testing.T) {
-	t.Parallel()
 	r := rand.New(rand.NewSource(3))
 	for i := range 4000 {
 		text := wander(r, 1+i%14, 8)
@@ -69,7 +68,6 @@ func TestParseFaultsByChance(t *testing.T) {
 // TestParseEveryPairBehind: behind many beginnings, each token that there is, and each piece of one. Beginnings with the same last byte,
 // behind which the same Kinds can stand, are taken for one.
 func TestParseEveryPairBehind(t *testing.T) {
-	t.Parallel()
 	met := map[string]bool{}
 	for _, start := range textStarts {
 		alike := fmt.Sprint(plainNext(start), start[max(0, len(start)-1):])

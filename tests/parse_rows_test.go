@@ -11,7 +11,6 @@ import (
 )
 
 func TestParseSpreadSheets(t *testing.T) {
-	t.Parallel()
 	r := rand.New(rand.NewSource(11))
 	for _, s := range grownSheets(5, 1200) {
 		text, want := spreadOf(s, r).laid()
