@@ -158,6 +158,7 @@ func TestLoomMovesOfInstructions(t *testing.T) {
 	checkCourse(t, "const 0 1; if 0 @a; tick; a: unless 0 @b; jump @c; b: tick; c: give 1", 0, "c0 | c1 | c3 | c4 | c6 | c7 | c7!return | given | over 0")
 	checkCourse(t, "list 0; copy 1 0; join 0 ~1; pick 1 0 3; first 1 ~0; const 0 1; const 1 1; const 2 1; for 0; t: fortest 0 @e; tick; fornext 0 @t; e: give 3", 4,
 		"c4 | c5 | c6 | c7 | c8 | c9 | c10 | c11 | c9 | c12 | c13 | c13!return | given | over 0")
+	checkCourse(t, "list 0; const 1 5; list 2; add 2 1; copy 3 2; join 3 2; join 2 ~3; add 0 ~1; join 2 0; return 2", 9, "c9 | c9!return | given 5 5 5 5 | over 0")
 	checkCourse(t, "do 0 type 7; try @h 1; endtry; scope 1; keep 2; leave; return 0; h: throw 1", 3, "c3 | c4 | c5 | c6 | c7 | c8 | c9 | c9- | c10 | c10!return | given \"int\" | over 0")
 	// IEach and IEachNext over a table, a builtin, a fn.
 	checkCourse(t, "table 0; const 2 1; raw 0 2 2; drop 2; each 0; n: eachnext 0 @e 2; drop 2; jump @n; e: give 2", 4, "c4 | c5 | c6 | c7 | c5 | c8 | c9 | c9!return | given | over 0")

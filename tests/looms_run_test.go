@@ -137,6 +137,13 @@ var late 2 5 10`
 		"line 0.0:9 / task 0, 0:9 n=5 e=b",
 		"print 0.0:9 5 / task 0, 0:9 n=5 e=b",
 	})
+	// Without parameters nothing is seen at the end of a call, though its registers hold something still.
+	text = "proto main\nfn 0 f; do 1 r0; return 1\nproto f\nconst 0 5; line 2; list 1; return 1\nvar v 0 1 4"
+	c, got = stepsOf(text), nil
+	for k, rec := range ranCode(t, text, c, plenty()).Recs {
+		got = append(got, recTold(rec)+" / "+viewTold(impl.LookLoom(c, plenty(), 1, k)))
+	}
+	checkShown(t, text, got, []string{"call 0.1:0 f / task 0, 1:0, 0:0", "line 0.1:2 / task 0, 1:2 v=5, 0:0", "back 0.1:0 / task 0, 1:0, 0:0"})
 }
 
 // P7: nothing that was given is changed, answers share nothing with it or with one another, and the same arguments have the same answer.

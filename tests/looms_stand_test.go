@@ -248,6 +248,13 @@ upget 0 0; give 1 ~0`, in, 0, map[int]string{
 		    list "a" "b", box 0, value f1, value "l", nothing
 		rep line 0.0:4; call 0.1:2 f; back 0.1:0; gives ticks 3 made 4`,
 	})
+	// Of two Ups the one that is asked for, from the inside and from further out.
+	checkGives(t, `proto main
+const 0 "a"; box 0 ~0; const 1 "b"; box 1 ~1; fn 2 f; do 3 r2; return 3
+proto f ups=r0,r1
+upget 0 1; upget 1 0; const 2 "c"; upput 1 2; fn 3 g; one 4 r3; give 5 r0 r1 r4
+proto g ups=u1,u0
+upget 0 0; upget 1 1; binary 0 join ~0 ~1; give 2 r0`, "gives b a ca")
 	// Fewer and more arguments than parameters, with a rest and without.
 	for head, calls := range map[string]map[string]string{
 		"params=2":      {"": "value nil, value nil, nothing", "1": "value 1, value nil, nothing", "1 2": "value 1, value 2, nothing", "1 2 3": "value 1, value 2, nothing"},
@@ -295,6 +302,14 @@ func TestLoomStandTables(t *testing.T) {
 		t.Error(got)
 	}
 	ranCode(t, weak, c, plenty())
+	// One that is not reached itself stays as it was, though it wants a last word and is told it.
+	left := "proto main\nfn 0 f; table 1; const 2 \"weak\"; const 3 \"v\"; raw 1 2 3; const 2 \"last\"; raw 1 2 ~0; table 0; table 3; raw 0 2 ~3; one 3 setkind ~0 ~1; drop 3; do 0 collect; return 0\nproto f params=1\ngive 1"
+	c = stepsOf(left)
+	begun = slices.IndexFunc(courseOf(c, plenty()), func(moment string) bool { return strings.HasSuffix(moment, "K1 c0") })
+	if got := slotLines(impl.Stand(c, plenty(), 1, begun)); got[2] != `2: table born 3 ver 6 of 1 turns 1 1:"last"=t3` || got[3] != "3: table born 4 ver 5 of -1" {
+		t.Error(got)
+	}
+	ranCode(t, left, c, plenty())
 }
 
 func slotLines(m impl.Machine) []string {
