@@ -172,3 +172,32 @@ func TestLoomPeaks(t *testing.T) {
 		t.Error("over")
 	}
 }
+
+// P7: boxes cost nothing, so there may be very many; what is told of a whole run does not need them all at once.
+func TestLoomManyBoxes(t *testing.T) {
+	t.Parallel()
+	const turns, each = 500, 1990
+	c := stepsOf("again: tick; " + strings.Repeat("const 0 1; box 0 ~0; drop 0; ", each) + "jump @again")
+	in := impl.Input{Ticks: turns, Depth: 1}
+	want := impl.RunCode(c, in)
+	for _, pace := range []int{0, 1, 100} {
+		if got := impl.RunLoom(c, in, pace); got.Code != 2 || !sameReport(got, want) {
+			t.Errorf("pace %d: %s", pace, reportTold(got))
+		}
+	}
+	moves := turns*(2+3*each) + 1
+	if got := impl.Moves(c, in); got != moves {
+		t.Errorf("%d moves, want %d", got, moves)
+	}
+	for pace, peak := range map[int]int{0: turns * each, 1: 2, 100: 101} {
+		if got := impl.Peak(c, in, pace); got != peak {
+			t.Errorf("Peak %d at pace %d, want %d", got, pace, peak)
+		}
+	}
+	if got := impl.Most(c, in); got != 1 {
+		t.Errorf("Most %d", got)
+	}
+	if got := impl.Canon(c, in, 0, moves-1); len(got.Slots) != 0 || got.Births != turns*each {
+		t.Errorf("%d slots, %d births", len(got.Slots), got.Births)
+	}
+}
