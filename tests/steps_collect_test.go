@@ -161,6 +161,18 @@ func TestStepWeakTables(t *testing.T) {
 	}
 }
 
+// P5, P7: a key that is reached only behind the weak table, and one that is the value of another weak key: what stands beside them is
+// reached then, in either order.
+func TestStepWeakKeysReachedLate(t *testing.T) {
+	weak := `table 0; table 1; const 2 "weak"; const 3 "k"; raw 1 2 3; one 4 setkind r0 ~1; drop 4; `
+	checkGives(t, weak+"table 4; table 5; raw 0 4 ~5; table 6; raw 6 2 ~4; one 7 cells; one 8 collect; give 9 r7 r8", "gives 8 8")
+	for _, pairs := range []string{"raw 0 4 5; raw 0 5 6", "raw 0 5 6; raw 0 4 5"} {
+		for keep, want := range map[string]string{"raw 7 2 4": "gives 10 10", "raw 7 2 5": "gives 9 8", "raw 7 2 6": "gives 8 6"} {
+			checkGives(t, weak+"table 4; table 5; table 6; table 7; "+pairs+"; "+keep+"; drop 4; drop 5; drop 6; one 8 cells; one 9 collect; give 10 r8 r9", want)
+		}
+	}
+}
+
 // lastSteps: a table in register 9 whose last word is spoken by the fn in register 8; registers from 6 on are used.
 const lastSteps = `table 6; const 7 "last"; raw 6 7 8; table 9; do 10 setkind r9 ~6; drop 10; drop 7; `
 
