@@ -86,9 +86,10 @@ func TestOpsNone(t *testing.T) {
 	checkDisk(t, "the last Gen", next)
 }
 
-// put and wrong: ops of which one can be done and one can't.
+// put: a write of a block with the same byte everywhere.
 func put(block int, x byte) impl.DiskOp { return impl.DiskOp{Block: block, Bytes: full(x)} }
 
+// wrongOps: writes that can't be done.
 func wrongOps() []impl.DiskOp {
 	return []impl.DiskOp{{}, {Block: 0, Bytes: full(1)[:63]}, {Block: 0, Bytes: make([]byte, 65)}, put(-1, 1), put(258, 1), put(leastInt, 1), put(mostInt, 1)}
 }
