@@ -55,12 +55,17 @@ func plainSettled(u impl.Unit, r impl.Report) int {
 }
 
 func plainMoments(h impl.Hosted, lines []string) ([]impl.Moment, bool) {
-	r, views, ok := plainSession(h, lines)
-	if !ok {
+	l := plainLink(h.Bundle, h.Main)
+	if l.Code != 0 || !impl.InputOk(sessionInput(h, lines)) {
 		return nil, false
 	}
+	return plainUnitMoments(l.Unit, sessionInput(h, lines)), true
+}
+
+func plainUnitMoments(u impl.Unit, in impl.Input) []impl.Moment {
+	r, views := plainRun(u, in, true)
 	var moments []impl.Moment
-	for i, rec := range r.Recs[:plainSettled(plainLink(h.Bundle, h.Main).Unit, r)] {
+	for i, rec := range r.Recs[:plainSettled(u, r)] {
 		if rec.Kind == 8 || rec.Kind == 5 && rec.Fn == 0 && rec.Line == 0 {
 			continue
 		}
@@ -70,7 +75,7 @@ func plainMoments(h impl.Hosted, lines []string) ([]impl.Moment, bool) {
 		}
 		moments = append(moments, m)
 	}
-	return moments, true
+	return moments
 }
 
 // plainOpen: an open call of any task.
